@@ -67,7 +67,7 @@ func parseDecimal(s string, most int) (int, bool) {
 func parseDigits(s string, most int) (int, bool) {
 	n := 0
 	for i := range len(s) {
-		if s[i] < '0' || s[i] > '9' {
+		if !isDigit(s[i]) {
 			return 0, false
 		}
 		n = 10*n + int(s[i]-'0')
@@ -77,6 +77,10 @@ func parseDigits(s string, most int) (int, bool) {
 		}
 	}
 	return n, true
+}
+
+func isDigit(b byte) bool {
+	return b >= '0' && b <= '9'
 }
 
 // SplitByte returns the parts of s between the occurrences of the byte by.
