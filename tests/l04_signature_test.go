@@ -583,6 +583,19 @@ func TestEveryOperatorOfFewArguments(t *testing.T) {
 	}
 }
 
+// randomDecls gives 1 to 4 declarations of an arity with sorts below count, which need not be of one kind.
+func randomDecls(source *rand.Rand, arity, count int) []impl.Decl {
+	decls := []impl.Decl{}
+	for range 1 + source.Intn(4) {
+		decl := impl.Decl{Result: source.Intn(count)}
+		for range arity {
+			decl.Args = append(decl.Args, source.Intn(count))
+		}
+		decls = append(decls, decl)
+	}
+	return decls
+}
+
 // randomSignature gives a signature with valid sorts, names and numbers; the kinds and axioms need not fit.
 func randomSignature(source *rand.Rand) impl.Signature {
 	s := impl.Signature{Sorts: sortsOf(1, "")}
@@ -593,15 +606,8 @@ func randomSignature(source *rand.Rand) impl.Signature {
 		}
 	}
 	for i, k := range source.Perm(26)[:source.Intn(15)] {
-		op := impl.Op{Name: string(rune('a' + k))}
 		arity := source.Intn(4)
-		for range 1 + source.Intn(4) {
-			decl := impl.Decl{Result: source.Intn(len(s.Sorts.Names))}
-			for range arity {
-				decl.Args = append(decl.Args, source.Intn(len(s.Sorts.Names)))
-			}
-			op.Decls = append(op.Decls, decl)
-		}
+		op := impl.Op{Name: string(rune('a' + k)), Decls: randomDecls(source, arity, len(s.Sorts.Names))}
 		if arity == 2 {
 			op.Assoc, op.Comm = source.Intn(4) == 0, source.Intn(4) == 0
 			op.Unit = max(0, source.Intn(3*i+1)-2*i)

@@ -516,6 +516,21 @@ func aroundAll(x impl.Term) []impl.Term {
 	return []impl.Term{x, apply(3, x), apply(4, x, a), apply(4, a, x), apply(5, x, b), apply(5, a, x), apply(6, a, a, x), apply(7, x, b, b), apply(8, x, a), apply(9, a, x), apply(10, a, x, b), apply(11, a, x), apply(11, x, apply(11, b, b), a), apply(3, apply(3, apply(11, a, apply(4, a, x))))}
 }
 
+// wrongVariables gives variables that no term has for formSignature: with other names, sorts that do not exist, or Args.
+func wrongVariables() []impl.Term {
+	wrong := []impl.Term{}
+	for _, name := range []string{"", "if", "and", "1", "1x", "x1!", "x y", " x", "x:", "é", "x\x00", strings.Repeat("x", 13), strings.Repeat("x", 100000)} {
+		wrong = append(wrong, variableOf(name, 0), variableOf(name, 2))
+	}
+	for _, sort := range append(wrongSorts(), 5, 6, 7) {
+		wrong = append(wrong, variableOf("x", sort))
+	}
+	for _, arg := range []impl.Term{apply(0), variableOf("x", 0), {}, apply(-7), apply(3, apply(0))} {
+		wrong = append(wrong, impl.Term{Op: -1, Name: "x", Sort: 0, Args: []impl.Term{arg}}, impl.Term{Op: -1, Name: "x", Sort: 0, Args: []impl.Term{arg, arg}})
+	}
+	return wrong
+}
+
 func TestVariablesInForms(t *testing.T) {
 	s := formSignature()
 	long := strings.Repeat("x", 12)
@@ -529,17 +544,7 @@ func TestVariablesInForms(t *testing.T) {
 			}
 		}
 	}
-	wrong := []impl.Term{}
-	for _, name := range []string{"", "if", "and", "1", "1x", "x1!", "x y", " x", "x:", "é", "x\x00", long + "x", strings.Repeat("x", 100000)} {
-		wrong = append(wrong, variableOf(name, 0), variableOf(name, 2))
-	}
-	for _, sort := range append(wrongSorts(), 5, 6, 7) {
-		wrong = append(wrong, variableOf("x", sort))
-	}
-	for _, arg := range []impl.Term{apply(0), variableOf("x", 0), {}, apply(-7), apply(3, apply(0))} {
-		wrong = append(wrong, impl.Term{Op: -1, Name: "x", Sort: 0, Args: []impl.Term{arg}}, impl.Term{Op: -1, Name: "x", Sort: 0, Args: []impl.Term{arg, arg}})
-	}
-	for _, x := range wrong {
+	for _, x := range wrongVariables() {
 		for _, tree := range aroundAll(x) {
 			checkCanonical(t, s, tree, impl.Term{}, false)
 			checkMake(t, s, tree.Op, tree.Args, impl.Term{}, false)
@@ -659,8 +664,8 @@ func checkNoForms(t *testing.T, s impl.Signature, tree impl.Term) {
 	checkEqual(t, s, tree, tree, false)
 }
 
-func TestFormsOfInvalidSignatures(t *testing.T) {
-	trees := treesOf(formSignature(), "x:A; a; d; g(a); c(a, b); h(a, b); l(a, b, a); m(a, b); u(b, b); u(a, b); v(b, b); w(a, a); z(b, b, b); q(a, b); k(d, a, d)")
+// brokenSignatures gives signatures that are not valid, as one thing of formSignature is changed in each.
+func brokenSignatures() []impl.Signature {
 	changes := []func(s *impl.Signature){
 		func(s *impl.Signature) { *s = impl.Signature{} },
 		func(s *impl.Signature) { s.Sorts = impl.Sorts{} },
@@ -682,9 +687,18 @@ func TestFormsOfInvalidSignatures(t *testing.T) {
 		func(s *impl.Signature) { s.Ops[11].Unit = 15 },
 		func(s *impl.Signature) { s.Ops = append(s.Ops, impl.Op{Name: "n", Decls: []impl.Decl{{}}}) },
 	}
+	broken := []impl.Signature{}
 	for _, change := range changes {
 		s := formSignature()
 		change(&s)
+		broken = append(broken, s)
+	}
+	return broken
+}
+
+func TestFormsOfInvalidSignatures(t *testing.T) {
+	trees := treesOf(formSignature(), "x:A; a; d; g(a); c(a, b); h(a, b); l(a, b, a); m(a, b); u(b, b); u(a, b); v(b, b); w(a, a); z(b, b, b); q(a, b); k(d, a, d)")
+	for _, s := range brokenSignatures() {
 		for _, tree := range trees {
 			checkNoForms(t, s, tree)
 		}
@@ -1311,7 +1325,7 @@ func roomyCopy(t impl.Term) impl.Term {
 		args = append(args, roomyCopy(arg))
 	}
 	count := len(args)
-	args = append(args, apply(0), variableOf("spare", 0), apply(99))
+	args = append(args, variableOf("spare", 0), apply(0), apply(99))
 	return withArgs(t, args[:count]...)
 }
 
