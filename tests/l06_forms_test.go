@@ -531,6 +531,44 @@ func wrongVariables() []impl.Term {
 	return wrong
 }
 
+// unformedTrees gives trees that are no terms of formSignature, but have canonical forms.
+func unformedTrees() []impl.Term {
+	return treesOf(formSignature(), "h(b, a); l(l(b, a), b); l(b, l(a, b)); m(b, a); m(a, b, a); m(a, m(a, b)); u(a, b); u(b, a); v(a, b); w(a, b); w(a, b, a); z(a, b); z(b, b, a); z(b, z(b, b)); g(h(b, a)); g(u(a, a)); q(b, a); k(d, m(b, a), d)")
+}
+
+// noTerms gives trees that are no terms of formSignature.
+func noTerms() []impl.Term {
+	list := unformedTrees()
+	for _, x := range wrongVariables() {
+		list = append(list, aroundAll(x)...)
+	}
+	// Numbers and kinds of arguments, and sorts that do not exist.
+	list = append(list, treesOf(formSignature(), "a(a); a(x:A, y:A); g; g(a, a); c(a); c(a, a, a); h(a); l(a); l; m(a); u(a); u(b, b, b); w(a); z(b); k(d, a); g(d); c(a, d); h(a, x:D); l(d, d); q(x:D, y:E); k(a, a, d); g(a(a)); x:F; x:G; x:H")...)
+	for _, op := range append(wrongOps(), 14) {
+		if op < -1 || op >= 14 {
+			for _, args := range [][]impl.Term{nil, {apply(0)}, {apply(0), apply(1)}} {
+				list = append(list, apply(op, args...), apply(3, apply(op, args...)))
+			}
+		}
+	}
+	for _, head := range []impl.Term{{Name: "x"}, {Name: "a"}, {Sort: 1}, {Sort: -1}, {Sort: 2}} {
+		list = append(list, aroundAll(head)...)
+	}
+	return list
+}
+
+// endlessTrees gives values that are no terms of formSignature: some are very deep or wide, others contain themselves.
+func endlessTrees() []impl.Term {
+	a := apply(0)
+	list := []impl.Term{chainOf(3, 300000, a), nested(11, []impl.Term{a}, a, 300000), apply(6, slices.Repeat([]impl.Term{a}, 300000)...)}
+	for op := -1; op < 14; op++ {
+		args := slices.Repeat([]impl.Term{a}, max(1, impl.ArityOf(formSignature(), op)))
+		args[len(args)-1] = impl.Term{Op: op, Args: args}
+		list = append(list, args[len(args)-1])
+	}
+	return list
+}
+
 func TestVariablesInForms(t *testing.T) {
 	s := formSignature()
 	long := strings.Repeat("x", 12)

@@ -507,35 +507,13 @@ func TestSortsOfGreatSignatures(t *testing.T) {
 
 func TestSortsOfNoTerms(t *testing.T) {
 	s := formSignature()
-	for _, x := range wrongVariables() {
-		for _, tree := range aroundAll(x) {
-			checkNoSort(t, s, tree)
-		}
-	}
-	// Terms whose canonical form would have sorts.
-	for _, x := range treesOf(s, "h(b, a); l(l(b, a), b); l(b, l(a, b)); m(b, a); m(a, b, a); m(a, m(a, b)); u(a, b); u(b, a); v(a, b); w(a, b); w(a, b, a); z(a, b); z(b, b, a); z(b, z(b, b)); g(h(b, a)); g(u(a, a)); q(b, a); k(d, m(b, a), d)") {
+	for _, x := range unformedTrees() {
 		if form, ok := impl.CanonicalTerm(s, x); !ok || impl.SortsOf(s, form) == 0 {
 			t.Fatal(x, form, ok)
 		}
+	}
+	for _, x := range noTerms() {
 		checkNoSort(t, s, x)
-	}
-	// Numbers and kinds of arguments.
-	for _, x := range treesOf(s, "a(a); a(x:A, y:A); g; g(a, a); c(a); c(a, a, a); h(a); l(a); l; m(a); u(a); u(b, b, b); w(a); z(b); k(d, a); g(d); c(a, d); h(a, x:D); l(d, d); q(x:D, y:E); k(a, a, d); g(a(a)); x:F; x:G; x:H") {
-		checkNoSort(t, s, x)
-	}
-	for _, op := range append(wrongOps(), 14) {
-		if op < -1 || op >= 14 {
-			for _, args := range [][]impl.Term{nil, {apply(0)}, {apply(0), apply(1)}} {
-				checkNoSort(t, s, apply(op, args...))
-				checkNoSort(t, s, apply(3, apply(op, args...)))
-			}
-		}
-	}
-	for _, head := range []impl.Term{{Name: "x"}, {Name: "a"}, {Sort: 1}, {Sort: -1}, {Sort: 2}} {
-		wrong := impl.Term{Name: head.Name, Sort: head.Sort}
-		for _, tree := range aroundAll(wrong) {
-			checkNoSort(t, s, tree)
-		}
 	}
 }
 
@@ -556,20 +534,13 @@ func TestSortsOfInvalidSignatures(t *testing.T) {
 	checkPreregular(t, s, false)
 }
 
-// Deep trees need no deep calls, and a value that contains itself is no term.
+// Deep trees need no deep calls.
 func TestSortsOfGreatTrees(t *testing.T) {
 	defer debug.SetMaxStack(debug.SetMaxStack(1 << 22))
 	s := formSignature()
-	a := apply(0)
-	for _, x := range []impl.Term{chainOf(3, 300000, a), nested(11, []impl.Term{a}, a, 300000), apply(6, slices.Repeat([]impl.Term{a}, 300000)...)} {
+	for _, x := range endlessTrees() {
 		checkNoSort(t, s, x)
 		checkNoSort(t, s, apply(3, x))
-	}
-	for op := -1; op < 14; op++ {
-		args := slices.Repeat([]impl.Term{a}, max(1, impl.ArityOf(s, op)))
-		args[len(args)-1] = impl.Term{Op: op, Args: args}
-		checkNoSort(t, s, impl.Term{Op: op, Args: args})
-		checkNoSort(t, s, apply(3, args[len(args)-1]))
 	}
 }
 
