@@ -116,6 +116,11 @@ func (f matchesByText) matches(p, t impl.Term) ([][]impl.Binding, bool) {
 	if !f.isTerm(p) || !f.isTerm(t) || f.trials(p, t) > 20000 {
 		return nil, false
 	}
+	return f.allMatches(p, t), true
+}
+
+// allMatches tries all assignments, however many there are.
+func (f matchesByText) allMatches(p, t impl.Term) [][]impl.Binding {
 	candidates := f.candidates(t)
 	lists := assigned(variablesByText(p), func(v impl.Term) []impl.Term {
 		return slices.DeleteFunc(slices.Clone(candidates), func(to impl.Term) bool { return f.sortsOf(to)>>v.Sort&1 == 0 })
@@ -125,7 +130,7 @@ func (f matchesByText) matches(p, t impl.Term) ([][]impl.Binding, bool) {
 		return !ok || orderKey(instance) != orderKey(t)
 	})
 	slices.SortFunc(lists, func(a, b []impl.Binding) int { return strings.Compare(bindingsKey(a), bindingsKey(b)) })
-	return lists, true
+	return lists
 }
 
 // listKeys gives the keys of some lists of bindings in their order.
@@ -281,13 +286,15 @@ func TestNumberOfCandidates(t *testing.T) {
 	}
 }
 
-func TestReferenceMatches(t *testing.T) {
-	s := formSignature()
-	f := matchTextFor(s)
-	for _, c := range []struct {
-		p, tree string
-		want    []string
-	}{
+// matchCase is a pattern and a term, with the texts of all matches.
+type matchCase struct {
+	p, tree string
+	want    []string
+}
+
+// formCases gives patterns and terms of formSignature.
+func formCases() []matchCase {
+	return []matchCase{
 		// Without variables there is one substitution or none.
 		{"a", "a", []string{"none"}},
 		{"a", "b", nil},
@@ -405,16 +412,28 @@ func TestReferenceMatches(t *testing.T) {
 		{"z(b, w(x:C, y:C))", "b", []string{"x:C = a, y:C = b", "x:C = b, y:C = a"}},
 		{"z(b, w(x:C, y:C))", "z(b, b)", []string{"x:C = b, y:C = b"}},
 		{"h(x:C, z(x:C, y:C))", "h(b, b)", []string{"x:C = b, y:C = a"}},
-	} {
+	}
+}
+
+// checkCase checks the matches that a function gives.
+func checkCase(t *testing.T, s impl.Signature, c matchCase, got [][]impl.Binding, ok bool) {
+	t.Helper()
+	texts := []string{}
+	for _, list := range got {
+		texts = append(texts, impl.FormatSubstitution(s, list))
+	}
+	if !ok || !slices.Equal(texts, c.want) {
+		t.Errorf("the matches of %s with %s are %q, %v, want %q", c.p, c.tree, texts, ok, c.want)
+	}
+}
+
+func TestReferenceMatches(t *testing.T) {
+	s := formSignature()
+	f := matchTextFor(s)
+	for _, c := range formCases() {
 		p, x := treeOf(s, c.p), treeOf(s, c.tree)
 		got, ok := impl.ReferenceMatches(s, p, x)
-		texts := []string{}
-		for _, list := range got {
-			texts = append(texts, impl.FormatSubstitution(s, list))
-		}
-		if !ok || !slices.Equal(texts, c.want) {
-			t.Errorf("the matches of %s with %s are %q, %v, want %q", c.p, c.tree, texts, ok, c.want)
-		}
+		checkCase(t, s, c, got, ok)
 		checkTrial(t, f, p, x)
 	}
 }
@@ -918,27 +937,33 @@ func smallPatterns(s impl.Signature, most int) []impl.Term {
 	return inOrder(list)
 }
 
-// All ground terms that are not larger than a term are tried as values: no match is missing, for each choice of axioms.
+// checkSmallMatching checks the matches of small patterns for a choice of axioms: as values, all ground terms that are not larger than a term are tried.
+func checkSmallMatching(t *testing.T, choice int, check func(t *testing.T, s impl.Signature, p, x impl.Term, want [][]impl.Binding, wantOk bool)) {
+	t.Helper()
+	s := oneSort(choice)
+	values := inOrder(slices.DeleteFunc(smallTerms(s, 4), func(x impl.Term) bool { return !impl.IsGround(x) }))
+	patterns, found := smallPatterns(s, 5), 0
+	for _, p := range patterns {
+		matches := map[string][][]impl.Binding{}
+		for _, list := range assigned(impl.VariablesOf(p), func(impl.Term) []impl.Term { return values }) {
+			if x, ok := impl.ApplySubstitution(s, list, p); ok {
+				matches[orderKey(x)] = append(matches[orderKey(x)], list)
+			}
+		}
+		for _, x := range values {
+			check(t, s, p, x, matches[orderKey(x)], true)
+			found += len(matches[orderKey(x)])
+		}
+	}
+	if len(patterns) < 60 || len(values) < 12 || found < 100 {
+		t.Error("too few with the choice", choice, len(patterns), len(values), found)
+	}
+}
+
+// No match is missing, for each choice of axioms.
 func TestNoMatchIsMissing(t *testing.T) {
 	for choice := range 12 {
-		s := oneSort(choice)
-		values := inOrder(slices.DeleteFunc(smallTerms(s, 4), func(x impl.Term) bool { return !impl.IsGround(x) }))
-		patterns, found := smallPatterns(s, 5), 0
-		for _, p := range patterns {
-			matches := map[string][][]impl.Binding{}
-			for _, list := range assigned(impl.VariablesOf(p), func(impl.Term) []impl.Term { return values }) {
-				if x, ok := impl.ApplySubstitution(s, list, p); ok {
-					matches[orderKey(x)] = append(matches[orderKey(x)], list)
-				}
-			}
-			for _, x := range values {
-				checkMatches(t, s, p, x, matches[orderKey(x)], true)
-				found += len(matches[orderKey(x)])
-			}
-		}
-		if len(patterns) < 60 || len(values) < 12 || found < 100 {
-			t.Error("too few with the choice", choice, len(patterns), len(values), found)
-		}
+		checkSmallMatching(t, choice, checkMatches)
 	}
 }
 
